@@ -1,0 +1,1 @@
+"""Points that belong together: groups of points, exact in whole numbers."""
