@@ -1,4 +1,7 @@
-"""Middles of points, and the parting of points into groups round them."""
+"""Middles of points, the parting of points into groups round them, and what that costs."""
+
+from pointgroups.apart import far_apart
+from pointgroups.lowest import lowest_terms
 
 WIDTH = 8
 
@@ -26,7 +29,7 @@ def middle_of(points):
 
 # How far the point is from the middle's place, times the size squared: that keeps it whole.
 def scaled_far(point, middle):
-    return sum([(middle.size * number - total) ** 2 for number, total in zip(point, middle.sums)])
+    return far_apart([middle.size * number for number in point], middle.sums)
 
 
 def nearest_middle(point, middles):
@@ -66,3 +69,14 @@ def part_points(points, k, most_rounds):
         chosen = moved
         rounds += 1
     return Parting(middles, chosen, rounds)
+
+
+# The middles are those by which the points were placed: where rounds ran out, not those of the groups' points.
+def cost_of(points, parting):
+    divided = 0
+    divisor = 1
+    for place, middle in enumerate(parting.middles):
+        fars = [scaled_far(point, middle) for point, group in zip(points, parting.chosen) if group == place]
+        divided = divided * middle.size ** 2 + sum(fars) * divisor
+        divisor = divisor * middle.size ** 2
+    return lowest_terms(divided, divisor)

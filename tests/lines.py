@@ -4,6 +4,9 @@ from pointgroups.groups import answers
 
 LEAST = -2147483648
 MOST = 2147483647
+MOST_RADIUS = 18446744073709551615
+NO_GROUP = 65535
+MOST_CALLS = 60
 
 
 def full(*numbers):
@@ -31,9 +34,39 @@ def middle(number):
     return [4, number]
 
 
+def cost():
+    return [5]
+
+
+def dense(radius, least, number):
+    return [6, radius, least, number]
+
+
+def denses(radius, least):
+    return [7, radius, least]
+
+
+def merge(kind, k):
+    return [8, kind, k]
+
+
+def cut(kind, groups, number):
+    return [9, kind, groups, number]
+
+
 def told(size, *sums):
     """What middle answers."""
     return [size] + full(*sums)
+
+
+def told_cost(divided, divisor):
+    """What cost answers."""
+    return [0] + list(divided.to_bytes(32, "little")) + list(divisor.to_bytes(32, "little"))
+
+
+def on_a_row(*places):
+    """The calls that make points which differ in their first numbers alone."""
+    return [begin()] + [point(place) for place in places]
 
 
 def ask(*calls):
@@ -57,3 +90,12 @@ def ask_last(*calls):
 def ask_behind(before, *calls):
     """The answers of the calls that stand behind those of before."""
     return ask(*before, *calls)[len(before):]
+
+
+def ask_all(before, calls):
+    """The answers of the calls, each behind those of before, in as many lines as they need."""
+    room = MOST_CALLS - len(before)
+    given = []
+    for start in range(0, len(calls), room):
+        given += ask_behind(before, *calls[start:start + room])
+    return given

@@ -1,24 +1,10 @@
-"""Promises 3 to 5 once more: many lines against a plain telling of the words in fractions."""
+"""Promises 3 to 6 once more: many lines against a plain telling of the words in fractions."""
 
 import unittest
 from fractions import Fraction
 
-from tests.lines import ask_behind, begin, group, middle, part, point
-
-
-class Numbers:
-    """The same numbers each time, spread well enough to make lines of."""
-
-    def __init__(self, seed):
-        self.state = seed
-
-    def below(self, bound):
-        self.state = (self.state * 6364136223846793005 + 1442695040888963407) % 2 ** 64
-        return (self.state >> 33) % bound
-
-
-def far(one, other):
-    return sum((a - b) ** 2 for a, b in zip(one, other))
+from tests.lines import ask_behind, begin, cost, group, middle, part, point, told_cost
+from tests.spread import Numbers, far
 
 
 def nearest(one, middles):
@@ -43,6 +29,15 @@ def told_parting(points, k, rounds):
     return count, groups, middles
 
 
+def told_far(points, groups, middles):
+    """The cost as a fraction, from each point's own group alone."""
+    total = Fraction(0)
+    for one, number in zip(points, groups):
+        size, sums = middles[number]
+        total += far(one, [Fraction(place, size) for place in sums])
+    return total
+
+
 class AgainstFractionsTest(unittest.TestCase):
     def check(self, points, k, rounds):
         count, groups, middles = told_parting(points, k, rounds)
@@ -50,15 +45,17 @@ class AgainstFractionsTest(unittest.TestCase):
         calls = [part(k, rounds)]
         calls += [group(number) for number in range(len(points))]
         calls += [middle(number) for number in range(k)]
+        calls += [cost()]
         expected = [[count]] + [[number] for number in groups] + [[size] + sums for size, sums in middles]
+        together = told_far(points, groups, middles)
+        expected += [told_cost(together.numerator, together.denominator)]
         self.assertEqual(ask_behind(before, *calls), expected, (points, k, rounds))
 
     def run_lines(self, seed, lines, least, spread, width):
         numbers = Numbers(seed)
         for line in range(lines):
             many = 1 + numbers.below(20)
-            points = [[least + numbers.below(spread) for place in range(width)] + [0] * (8 - width)
-                      for one in range(many)]
+            points = numbers.points(many, least, spread, width)
             k = 1 + numbers.below(min(many, 16))
             self.check(points, k, (0, 1, 2, 3, 1000)[numbers.below(5)])
 

@@ -1,6 +1,7 @@
 """The package's files keep to the form that the program is written in."""
 
 import ast
+import builtins
 import pathlib
 import re
 import unittest
@@ -18,6 +19,13 @@ BUILTINS = (
     "len range enumerate zip min max sum abs sorted reversed int str bool list tuple dict set frozenset isinstance "
     "ord repr any all divmod Exception ValueError TypeError KeyError IndexError LookupError ZeroDivisionError "
     "ArithmeticError OverflowError RuntimeError NotImplementedError AttributeError StopIteration").split()
+
+METHODS = (
+    "append clear copy count endswith extend find get index insert isalnum isalpha isdigit islower isspace isupper "
+    "items join keys ljust lower lstrip partition pop remove replace reverse rfind rjust rpartition rsplit rstrip "
+    "setdefault split splitlines startswith strip update upper values zfill bit_length").split()
+KEYWORDS = {"sorted": ("key", "reverse"), "min": ("key", "default"), "max": ("key", "default"), "sum": ("start",),
+            "enumerate": ("start",), "zip": ("strict",)}
 
 
 def files():
@@ -40,6 +48,27 @@ def bound_names(tree):
         elif isinstance(node, ast.alias):
             names.append(node.name)
     return names
+
+
+def all_nodes(sort):
+    return [(name, node) for name, tree in trees() for node in ast.walk(tree) if isinstance(node, sort)]
+
+
+def own_methods():
+    return {inner.name for name, node in all_nodes(ast.ClassDef) for inner in node.body
+            if isinstance(inner, ast.FunctionDef)}
+
+
+def own_values():
+    return {node.attr for name, node in all_nodes(ast.Attribute) if isinstance(node.ctx, ast.Store)}
+
+
+def drawn_from():
+    drawn = {}
+    for path in files():
+        found = [node for node in ast.walk(ast.parse(path.read_text())) if isinstance(node, ast.ImportFrom)]
+        drawn["pointgroups." + path.stem] = [node.module for node in found]
+    return drawn
 
 
 class FormTest(unittest.TestCase):
@@ -89,3 +118,52 @@ class FormTest(unittest.TestCase):
             for node in ast.walk(tree):
                 if isinstance(node, ast.Name) and isinstance(node.ctx, ast.Load):
                     self.assertTrue(node.id in bound or node.id in BUILTINS, (name, node.id))
+                if isinstance(node, (ast.arg, ast.Name)):
+                    word = node.arg if isinstance(node, ast.arg) else node.id
+                    self.assertTrue(isinstance(getattr(node, "ctx", None), ast.Load) or word not in dir(builtins),
+                                    (name, word))
+
+    def test_no_local_is_called_like_a_class_or_an_import(self):
+        for name, tree in trees():
+            taken = [node.name for node in tree.body if isinstance(node, ast.ClassDef)]
+            taken += [alias.name for node in tree.body if isinstance(node, ast.ImportFrom) for alias in node.names]
+            for word in taken:
+                self.assertEqual(bound_names(tree).count(word), 1, (name, word))
+
+    def test_a_name_is_a_method_or_a_value(self):
+        self.assertEqual(own_methods() & own_values(), set())
+
+    def test_methods_are_own_or_allowed(self):
+        for name, node in all_nodes(ast.Call):
+            if isinstance(node.func, ast.Attribute):
+                self.assertIn(node.func.attr, sorted(own_methods()) + METHODS, name)
+
+    def test_keywords(self):
+        for name, node in all_nodes(ast.Call):
+            called = node.func.id if isinstance(node.func, ast.Name) else ""
+            for keyword in node.keywords:
+                self.assertIn(keyword.arg, KEYWORDS.get(called, ()), (name, called))
+
+    def test_exponents_are_written(self):
+        for name, node in all_nodes(ast.BinOp):
+            if isinstance(node.op, ast.Pow):
+                self.assertIsInstance(node.right, ast.Constant, name)
+                self.assertTrue(0 <= node.right.value <= 64, name)
+
+    def test_no_two_files_draw_from_one_another(self):
+        drawn = drawn_from()
+        while drawn:
+            free = [name for name in drawn if not any(other in drawn for other in drawn[name])]
+            self.assertTrue(free, drawn)
+            for name in free:
+                drawn.pop(name)
+
+    def test_one_target_and_one_for(self):
+        for name, node in all_nodes(ast.Assign):
+            self.assertEqual(len(node.targets), 1, name)
+            self.assertNotIsInstance(node.targets[0], (ast.Tuple, ast.List), name)
+        for name, node in all_nodes(ast.ListComp):
+            self.assertEqual(len(node.generators), 1, name)
+            self.assertLessEqual(len(node.generators[0].ifs), 1, name)
+        for name, node in all_nodes((ast.For, ast.While)):
+            self.assertEqual(node.orelse, [], name)
